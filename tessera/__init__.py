@@ -1,0 +1,1 @@
+"""Tessera: a store of arrays that survives cuts and tells damage."""
