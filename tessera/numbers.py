@@ -70,17 +70,21 @@ def stands_at(values, index, highest):
 
 def read_number(values, index):
     """Return the number that is written at the index, and the index behind it."""
-    last = index
-    while stands_at(values, last, HIGHEST_BYTE) and values[last] >= BASE:
-        last = last + 1
-    if not stands_at(values, last, BASE - 1):
+    if index < 0:
         raise Unreadable(index)
-    if last > index and values[last] == 0:
-        raise Unreadable(index)
-    number = values[last]
-    for at in range(last - 1, index - 1, -1):
-        number = number * BASE + values[at] - BASE
-    return number, last + 1
+    number = 0
+    weight = 1
+    for at in range(index, len(values)):
+        byte = values[at]
+        if byte < BASE:
+            if byte == 0 and at > index:
+                break
+            return number + byte * weight, at + 1
+        if byte > HIGHEST_BYTE:
+            break
+        number = number + (byte - BASE) * weight
+        weight = weight * BASE
+    raise Unreadable(index)
 
 
 def read_integer(values, index):

@@ -56,6 +56,30 @@ FUNCTIONS = {
         "last_seal": ["disk"],
         "make_ready": ["disk"],
     },
+    "trees": {
+        "find": ["log", "root", "key"],
+        "put": ["log", "root", "key", "pointer"],
+        "remove": ["log", "root", "key"],
+        "entries": ["log", "root", "*low", "*high"],
+        "tree_depth": ["log", "root"],
+        "node_pointers": ["log", "root"],
+    },
+    "layouts": {
+        "is_chunk_shape": ["shape", "dimensions"],
+        "grid_index": ["chunk_shape", "index"],
+        "grids_of": ["layout", "shape", "selection"],
+    },
+    "chunks": {
+        "encode_chunk": ["layout", "values"],
+        "decode_chunk": ["layout", "content"],
+        "load_chunk": ["log", "layout", "root", "grid"],
+        "save_chunk": ["log", "layout", "root", "grid", "values"],
+    },
+    "slabs": {
+        "read_slab": ["log", "layout", "root", "shape", "selection"],
+        "write_slab": ["log", "layout", "root", "shape", "selection", "values"],
+        "resize_slabs": ["log", "layout", "root", "old", "new"],
+    },
 }
 
 METHODS = {
@@ -68,11 +92,34 @@ METHODS = {
         "change": ["self", "address", "value"],
         "copied": ["self"],
     },
+    ("logs", "Log"): {
+        "__init__": ["self", "disk"],
+        "put": ["self", "kind", "content"],
+        "fetch": ["self", "kind", "pointer"],
+        "seal": ["self", "root"],
+        "drop": ["self"],
+    },
+    ("layouts", "Layout"): {
+        "__init__": ["self", "kind", "chunk_shape", "fill", "filters"],
+        "__eq__": ["self", "other"],
+    },
 }
+
+PROPERTIES = {("logs", "Log"): ["batch", "pending"]}
+GENERATORS = [("shapes", "indexes_in"), ("trees", "entries")]
 
 
 def arguments_of(function):
-    return list(inspect.signature(function).parameters)
+    """The names of the arguments, with a star where they are passed by keyword only."""
+    found = []
+    for name, parameter in inspect.signature(function).parameters.items():
+        found.append("*" + name if parameter.kind == parameter.KEYWORD_ONLY else name)
+    return found
+
+
+def defaults_of(function):
+    parameters = inspect.signature(function).parameters.items()
+    return {name: parameter.default for name, parameter in parameters if parameter.default != parameter.empty}
 
 
 class InterfaceTests(unittest.TestCase):
@@ -93,9 +140,20 @@ class InterfaceTests(unittest.TestCase):
                 with self.subTest(file=file, name=method):
                     self.assertEqual(arguments_of(vars(getattr(module, name))[method]), arguments)
 
-    def test_indexes_in_is_a_generator(self):
-        shapes = importlib.import_module("tessera.shapes")
-        self.assertTrue(inspect.isgeneratorfunction(shapes.indexes_in))
+    def test_properties_stand_in_the_class_itself(self):
+        for (file, name), properties in PROPERTIES.items():
+            module = importlib.import_module("tessera." + file)
+            for each in properties:
+                self.assertIsInstance(vars(getattr(module, name))[each], property)
+
+    def test_generators(self):
+        for file, name in GENERATORS:
+            function = getattr(importlib.import_module("tessera." + file), name)
+            self.assertTrue(inspect.isgeneratorfunction(function))
+
+    def test_default_values(self):
+        trees = importlib.import_module("tessera.trees")
+        self.assertEqual(defaults_of(trees.entries), {"low": (), "high": None})
 
 
 if __name__ == "__main__":
