@@ -27,6 +27,11 @@ def greatest(kind):
     return least(kind) + value_count(kind) - 1
 
 
+def in_range(kind, value):
+    """Tell whether the value is in the range of the kind."""
+    return least(kind) <= value <= greatest(kind)
+
+
 def check_range(kind, values):
     """Raise InvalidValue for the first value that is outside of the range."""
     low, high = least(kind), greatest(kind)

@@ -351,6 +351,17 @@ class ResizeTests(unittest.TestCase):
         self.assertEqual(sorted(after), [(number,) for number in range(7)])
         self.assertEqual([grid for grid in after if after[grid] != before[grid]], [(6,)])
 
+    def test_chunks_that_end_where_the_new_shape_ends_are_kept(self):
+        array = Array((6, 6), Layout("u1", (2, 2), 0, ()))
+        array.write(whole((6, 6)), list(range(36)))
+        before = dict(entries(array.log, array.root))
+        array.resize((6, 4))
+        after = dict(entries(array.log, array.root))
+        self.assertEqual(after, {grid: before[grid] for grid in before if grid[1] < 2})
+        array.resize((3, 4))
+        kept = {grid: pointer for grid, pointer in entries(array.log, array.root) if after[grid] == pointer}
+        self.assertEqual(sorted(kept), [(0, 0), (0, 1)])
+
     def test_only_the_fill_value_beyond_the_old_shape(self):
         # The last chunk reaches beyond the old shape, and the new one ends there, too.
         array = line()

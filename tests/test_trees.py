@@ -228,6 +228,13 @@ class NodeTests(unittest.TestCase):
         self.assertEqual(tree_depth(log, root), 1)
         self.assertEqual([key for key, _ in entries(log, root)], [(number,) for number in range(5)])
 
+    def test_the_node_that_becomes_the_root_may_have_two_entries(self):
+        log, root = filled([(number,) for number in range(44)])
+        for number in range(10, 44):
+            root = remove(log, root, (number,))
+        self.assertEqual(tree_depth(log, root), 2)
+        self.assertEqual([key for key, _ in entries(log, root)], [(number,) for number in range(10)])
+
     def test_roots_with_one_entry_are_replaced_down_to_a_leaf(self):
         log, root = filled([(number,) for number in range(44)])
         for number in range(5, 25):

@@ -1,10 +1,11 @@
 """What several tests need: trees as tables, damage, and random but repeatable choices."""
 
 from tessera.disks import Disk
-from tessera.errors import Damaged
+from tessera.errors import Damaged, TesseraError
 from tessera.logs import Log
 from tessera.numbers import read_integers, read_number
 from tessera.records import NOWHERE
+from tessera.selections import whole
 
 
 def pointer_of(error):
@@ -85,3 +86,30 @@ def new_log():
     disk = Disk([])
     Log(disk).seal(NOWHERE)
     return Log(disk)
+
+
+def error_of(action):
+    """The class and the fields of the error that the action raises."""
+    try:
+        action()
+    except TesseraError as error:
+        return error.__class__, vars(error)
+    return None
+
+
+def facts_of(store, path):
+    """Everything that can be read of a path."""
+    kind = store.kind_at(path)
+    facts = [kind, store.attributes_of(path)]
+    if kind == "group":
+        return facts + [store.names_in(path)]
+    facts += [store.shape_of(path), store.read(path, whole(store.shape_of(path)))]
+    if kind == "view":
+        return facts + [store.pieces_of(path)]
+    layout = store.layout_of(path)
+    return facts + [(layout.kind, layout.chunk_shape, layout.fill, layout.filters)]
+
+
+def snapshot(store):
+    """Everything that can be read of a store."""
+    return [(path, facts_of(store, path)) for path in store.paths()]
