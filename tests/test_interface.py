@@ -80,6 +80,23 @@ FUNCTIONS = {
         "write_slab": ["log", "layout", "root", "shape", "selection", "values"],
         "resize_slabs": ["log", "layout", "root", "old", "new"],
     },
+    "paths": {
+        "is_name": ["name"],
+        "is_path": ["path"],
+        "parent": ["path"],
+        "lies_in": ["path", "other"],
+        "key_of": ["path"],
+        "path_of": ["key"],
+        "range_in": ["path"],
+    },
+    "objects": {
+        "write_object": ["thing"],
+        "read_object": ["content"],
+        "is_attribute": ["name", "value"],
+        "is_piece": ["piece", "shape"],
+    },
+    "opening": {"new_store": ["disk"], "open_store": ["disk"]},
+    "views": {"deciding_piece": ["view", "index"], "source_index": ["piece", "index"]},
 }
 
 METHODS = {
@@ -103,9 +120,36 @@ METHODS = {
         "__init__": ["self", "kind", "chunk_shape", "fill", "filters"],
         "__eq__": ["self", "other"],
     },
+    ("objects", "Group"): {"__init__": ["self", "attributes"]},
+    ("objects", "ArrayObject"): {"__init__": ["self", "attributes", "shape", "layout", "root"]},
+    ("objects", "View"): {"__init__": ["self", "attributes", "kind", "shape", "fill", "pieces"]},
+    ("stores", "Store"): {
+        "make_group": ["self", "path"],
+        "make_array": ["self", "path", "kind", "shape", "*chunks", "*fill", "*filters"],
+        "make_view": ["self", "path", "kind", "shape", "*pieces", "*fill"],
+        "add_piece": ["self", "path", "piece"],
+        "remove": ["self", "path"],
+        "move": ["self", "path", "other"],
+        "duplicate": ["self", "path", "other"],
+        "set_attribute": ["self", "path", "name", "value"],
+        "remove_attribute": ["self", "path", "name"],
+        "attributes_of": ["self", "path"],
+        "write": ["self", "path", "selection", "values"],
+        "resize": ["self", "path", "shape"],
+        "read": ["self", "path", "selection"],
+        "kind_at": ["self", "path"],
+        "shape_of": ["self", "path"],
+        "layout_of": ["self", "path"],
+        "pieces_of": ["self", "path"],
+        "names_in": ["self", "path"],
+        "paths": ["self"],
+        "chunk_pointer": ["self", "path", "grid"],
+        "commit": ["self"],
+        "discard": ["self"],
+    },
 }
 
-PROPERTIES = {("logs", "Log"): ["batch", "pending"]}
+PROPERTIES = {("logs", "Log"): ["batch", "pending"], ("stores", "Store"): ["batch"]}
 GENERATORS = [("shapes", "indexes_in"), ("trees", "entries")]
 
 
@@ -154,6 +198,9 @@ class InterfaceTests(unittest.TestCase):
     def test_default_values(self):
         trees = importlib.import_module("tessera.trees")
         self.assertEqual(defaults_of(trees.entries), {"low": (), "high": None})
+        store = importlib.import_module("tessera.stores").Store
+        self.assertEqual(defaults_of(store.make_array), {"fill": 0, "filters": ()})
+        self.assertEqual(defaults_of(store.make_view), {"fill": 0})
 
 
 if __name__ == "__main__":

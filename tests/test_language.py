@@ -181,6 +181,42 @@ class LanguageTests(unittest.TestCase):
                         self.assertFalse(name.startswith("__"))
                         self.assertFalse(hasattr(builtins, name))
 
+    def test_l15_no_variable_has_the_name_of_a_class_or_an_import(self):
+        for path, tree in trees():
+            taken = {node.name for node in tree.body if isinstance(node, ast.ClassDef)}
+            for node in tree.body:
+                if isinstance(node, ast.ImportFrom):
+                    taken |= {alias.name for alias in node.names}
+            for node in ast.walk(tree):
+                name = node.arg if isinstance(node, ast.arg) else None
+                if isinstance(node, ast.Name) and not isinstance(node.ctx, ast.Load):
+                    name = node.id
+                self.assertNotIn(name, taken, f"{path.name}, line {getattr(node, 'lineno', 0)}")
+
+    def test_l18_no_name_is_a_method_and_an_attribute_of_a_class(self):
+        for place, node in self.each(ast.ClassDef):
+            methods = {method.name for method in node.body if isinstance(method, ast.FunctionDef)}
+            stored = {
+                part.attr for part in ast.walk(node)
+                if isinstance(part, ast.Attribute) and isinstance(part.ctx, ast.Store)
+            }
+            self.assertEqual(methods & stored, set(), place)
+
+    def test_l23_generators_have_names_of_their_own(self):
+        functions = [node for _, node in self.each(ast.FunctionDef)]
+        names = [node.name for node in functions]
+        for node in functions:
+            if any(isinstance(part, (ast.Yield, ast.YieldFrom)) for part in ast.walk(node)):
+                self.assertEqual(names.count(node.name), 1)
+                self.assertNotIn(node.name, METHODS)
+
+    def test_l26_attributes(self):
+        barred = "items keys values pop update append clear extend insert remove reverse setdefault sort args encode " \
+            "decode hex fromhex format".split()
+        for place, node in self.each(ast.Attribute):
+            if isinstance(node.ctx, ast.Store):
+                self.assertNotIn(node.attr, barred, place)
+
     def test_l14_characters(self):
         for path in FILES:
             data = path.read_bytes()

@@ -13,11 +13,13 @@ def pointer_of(error):
 
 
 def outcome(action):
-    """What the action gives, or the pointer that it calls damaged."""
+    """What the action gives, or the pointer that it calls damaged, or its other error."""
     try:
         return "gives", action()
     except Damaged as error:
         return "damaged", pointer_of(error)
+    except TesseraError as error:
+        return "raises", error.__class__
 
 
 def damaged_disk(disk, pointer, place=0):
