@@ -4,12 +4,14 @@ import unittest
 
 from tessera.disks import Disk
 from tessera.errors import NotAStore
+from tessera.logs import Log
 from tessera.objects import Group, read_object, write_object
 from tessera.opening import new_store, open_store
-from tessera.records import make_record, read_record
+from tessera.records import NOWHERE, make_record, read_record
 from tessera.seals import make_seal, seal_at
+from tessera.trees import put
 
-from tests.tools import error_of, node_at, snapshot
+from tests.tools import error_of, node_at, outcome, snapshot
 
 
 def bytes_of(disk):
@@ -105,6 +107,18 @@ class OpenTests(unittest.TestCase):
                 store.make_group("new")
                 store.commit()
                 self.assertEqual(open_store(disk).paths(), ["", "a", "new"])
+
+    def test_records_that_are_no_objects(self):
+        group = write_object(Group([]))
+        for kind, content in [(4, [1]), (4, [9, 0]), (4, group + [0]), (4, []), (3, group)]:
+            log = Log(Disk([]))
+            pointer = log.put(kind, content)
+            log.seal(put(log, NOWHERE, (), pointer))
+            store = open_store(log.disk)
+            self.assertEqual(store.paths(), [""])
+            for ask in (store.kind_at, store.names_in, store.attributes_of):
+                self.assertEqual(outcome(lambda: ask("")), ("damaged", pointer))
+            self.assertEqual(outcome(lambda: store.make_group("a")), ("damaged", pointer))
 
     def test_two_stores_on_copies_do_not_disturb_each_other(self):
         disk = filled_disk()

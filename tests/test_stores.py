@@ -447,6 +447,16 @@ class BatchTests(unittest.TestCase):
         store.commit()
         self.assertEqual(len(disk), size + 56)
 
+    def test_discarded_deeds_leave_no_bytes_behind(self):
+        disk = Disk([])
+        store = new_store(disk)
+        size = len(disk)
+        store.make_array("a", "u1", (4,), chunks=(2,))
+        store.write("a", line(4), [1, 2, 3, 4])
+        store.discard()
+        store.commit()
+        self.assertEqual(len(disk), size + 56)
+
     def test_old_records_are_never_overwritten(self):
         disk = Disk([])
         store = new_store(disk)
