@@ -3,10 +3,8 @@
 A directory is given by a log and its root pointer; a deed gives the new root.
 """
 
-from tessera.directories import pointer_at, rows_between, thing_at
-from tessera.errors import (
-    AlreadyThere, InvalidPart, InvalidPath, InvalidShape, IntoItself, NotAGroup, NotFound,
-)
+from tessera.directories import check_there, pointer_at, rows_between, thing_at
+from tessera.errors import AlreadyThere, InvalidPart, InvalidPath, InvalidShape, IntoItself, NotAGroup
 from tessera.filters import is_chain
 from tessera.kinds import KINDS, check_range
 from tessera.layouts import is_chunk_shape
@@ -79,12 +77,6 @@ def without_path(log, root, path):
     check_named(path)
     check_there(log, root, path)
     return exchange(log, root, [], [key_of(old) for old, _ in rows_from(log, root, path)])
-
-
-def check_there(log, root, path):
-    """Refuse a path at which there is nothing."""
-    if pointer_at(log, root, path) is None:
-        raise NotFound(path)
 
 
 def moved(log, root, path, other):

@@ -15,6 +15,12 @@ def pointer_at(log, root, path):
     return find(log, root, key_of(path))
 
 
+def check_there(log, root, path):
+    """Refuse a path at which there is nothing."""
+    if pointer_at(log, root, path) is None:
+        raise NotFound(path)
+
+
 def fetch_object(log, pointer):
     """Return the object whose record has this pointer."""
     thing = read_object(log.fetch(OBJECT, pointer))

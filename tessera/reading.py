@@ -4,6 +4,7 @@ They change nothing, so they can be asked of any directory, given by a log and
 its root pointer.
 """
 
+from tessera.chunks import read_chunk
 from tessera.directories import array_at, array_or_view_at, object_at, rows_between, thing_at
 from tessera.errors import NotAGroup
 from tessera.kinds import in_range
@@ -11,7 +12,7 @@ from tessera.objects import ArrayObject, Group, View
 from tessera.paths import SLASH, range_in
 from tessera.selections import is_index, picked
 from tessera.slabs import read_slab
-from tessera.trees import find
+from tessera.trees import entries, find
 from tessera.views import deciding_piece, source_index
 
 
@@ -43,6 +44,12 @@ def names_in_group(log, root, path):
 def pointer_of_chunk(log, root, path, grid):
     """Return the pointer of the record of a chunk, or None."""
     return find(log, array_at(log, root, path).root, grid)
+
+
+def chunks_in_array(log, root, path):
+    """Return the pairs of a grid index and the values of each chunk with a record, ascending."""
+    array = array_at(log, root, path)
+    return [(grid, read_chunk(log, array.layout, pointer)) for grid, pointer in entries(log, array.root)]
 
 
 def read_values(log, root, path, selection):

@@ -92,9 +92,14 @@ def is_cut(chunk_shape, grid, old, new):
 
 def cut_values(log, layout, pointer, grid, shape):
     """Return the values of the chunk, with the fill value outside of the shape."""
-    values = read_chunk(log, layout, pointer)
+    return filled_outside(layout, read_chunk(log, layout, pointer), grid, shape)
+
+
+def filled_outside(layout, values, grid, shape):
+    """Return these values of a chunk, with the fill value at the indexes outside of the shape."""
+    filled = list(values)
     corner = [place * size for place, size in zip(grid, layout.chunk_shape)]
     for rank, inner in enumerate(indexes_in(layout.chunk_shape)):
         if not is_index(shape, tuple([start + place for start, place in zip(corner, inner)])):
-            values[rank] = layout.fill
-    return values
+            filled[rank] = layout.fill
+    return filled

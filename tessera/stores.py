@@ -8,7 +8,9 @@ from tessera.directories import array_at, array_or_view_at, object_at, view_at
 from tessera.errors import InvalidPart, InvalidShape, NoAttribute
 from tessera.layouts import Layout
 from tessera.objects import MOST_ATTRIBUTES, ArrayObject, Group, View, is_attribute, with_attributes
-from tessera.reading import names_in_group, paths_of_all, pointer_of_chunk, read_values, word_for
+from tessera.reading import (
+    chunks_in_array, names_in_group, paths_of_all, pointer_of_chunk, read_values, word_for,
+)
 from tessera.records import NOWHERE
 from tessera.shapes import is_shape
 from tessera.slabs import resize_slabs, write_slab
@@ -133,6 +135,14 @@ class Store:
     def chunk_pointer(self, path, grid):
         """Return the pointer of the record of a chunk of the array, or None."""
         return pointer_of_chunk(self._log, self._root, path, grid)
+
+    def object_of(self, path):
+        """Return the Group, ArrayObject or View at the path."""
+        return object_at(self._log, self._root, path)
+
+    def chunks_of(self, path):
+        """Return the pairs of a grid index and the values of each chunk of the array with a record."""
+        return chunks_in_array(self._log, self._root, path)
 
     def commit(self):
         """Seal the batch."""

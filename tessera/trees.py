@@ -32,6 +32,25 @@ def put(log, root, key, pointer):
     return made[0][1]
 
 
+def put_tree(log, pairs):
+    """Return the root of a new tree with these pairs, which are ascending.
+
+    Other than by putting one key after another, each node is put once.
+    """
+    if not pairs:
+        return NOWHERE
+    level = put_level(log, LEAF, pairs)
+    while len(level) > 1:
+        level = put_level(log, INNER, level)
+    return level[0][1]
+
+
+def put_level(log, kind, pairs):
+    """Put as many nodes as these pairs need; return their pairs above."""
+    parts = [pairs[at:at + MOST_PAIRS] for at in range(0, len(pairs), MOST_PAIRS)]
+    return [(part[0][0], log.put(kind, write_node(part))) for part in parts]
+
+
 def remove(log, root, key):
     """Return the root of the tree without the key, or the old one if it is not there."""
     if root == NOWHERE:

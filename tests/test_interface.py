@@ -97,6 +97,15 @@ FUNCTIONS = {
     },
     "opening": {"new_store": ["disk"], "open_store": ["disk"]},
     "views": {"deciding_piece": ["view", "index"], "source_index": ["piece", "index"]},
+    "inspecting": {"inspect": ["disk"], "live_pointers": ["disk"], "is_sound": ["disk"], "compacted": ["disk"]},
+    "loading": {"load": ["disk", "text"]},
+    "history": {
+        "batches": ["disk"],
+        "look_at": ["disk", "batch"],
+        "changed_paths": ["disk", "first", "second"],
+        "changed_chunks": ["disk", "first", "second", "path"],
+    },
+    "scripts": {"run_line": ["store", "line"], "run_script": ["store", "text"]},
 }
 
 METHODS = {
@@ -115,6 +124,24 @@ METHODS = {
         "fetch": ["self", "kind", "pointer"],
         "seal": ["self", "root"],
         "drop": ["self"],
+    },
+    ("plain", "PlainArray"): {
+        "__init__": ["self", "shape", "fill"],
+        "all_values": ["self"],
+        "read": ["self", "selection"],
+        "write": ["self", "selection", "values"],
+        "resize": ["self", "shape"],
+    },
+    ("history", "Look"): {
+        "read": ["self", "path", "selection"],
+        "attributes_of": ["self", "path"],
+        "kind_at": ["self", "path"],
+        "shape_of": ["self", "path"],
+        "layout_of": ["self", "path"],
+        "pieces_of": ["self", "path"],
+        "names_in": ["self", "path"],
+        "paths": ["self"],
+        "chunk_pointer": ["self", "path", "grid"],
     },
     ("layouts", "Layout"): {
         "__init__": ["self", "kind", "chunk_shape", "fill", "filters"],
@@ -149,7 +176,7 @@ METHODS = {
     },
 }
 
-PROPERTIES = {("logs", "Log"): ["batch", "pending"], ("stores", "Store"): ["batch"]}
+PROPERTIES = {("logs", "Log"): ["batch", "pending"], ("stores", "Store"): ["batch"], ("history", "Look"): ["batch"]}
 GENERATORS = [("shapes", "indexes_in"), ("trees", "entries")]
 
 
