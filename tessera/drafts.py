@@ -182,7 +182,7 @@ class Drafts:
         """Begin the object whose header has these words behind the first one."""
         require(self.are_complete() and len(words) == (1 if word == "group" else 2))
         path = words[0]
-        require(path != "" and is_path(path) and path > self.made[-1].path and parent(path) in self._groups)
+        require(is_path(path) and path > self.made[-1].path and parent(path) in self._groups)
         kind = None
         if word != "group":
             kind = words[1]

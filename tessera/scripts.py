@@ -7,6 +7,9 @@ DONE = "ok"
 BAD_LINE = "bad line"
 NO_DIMENSIONS = "*"
 
+# How many colons are words of the lines that have some.
+COLON_COUNTS = {"array": 2, "view": 1, "piece": 2}
+
 
 def ranges_in(word):
     """Return the ranges of the box that is written as this word."""
@@ -26,7 +29,6 @@ def run_group(store, words):
 
 def run_array(store, words):
     """Make an array."""
-    require(len(words) >= 2)
     sizes, chunk_sizes, more = lists_in(words[2:], 3)
     require(len(more) >= 1)
     shape, chunks, fill = integers_in(sizes), integers_in(chunk_sizes), integer_in(more[0])
@@ -36,7 +38,6 @@ def run_array(store, words):
 
 def run_view(store, words):
     """Make a view without pieces."""
-    require(len(words) >= 2)
     sizes, fills = lists_in(words[2:], 2)
     require(len(fills) == 1)
     shape, fill = integers_in(sizes), integer_in(fills[0])
@@ -46,7 +47,6 @@ def run_view(store, words):
 
 def run_piece(store, words):
     """Make a view anew with one more piece."""
-    require(len(words) >= 2)
     source, target, counts = [integers_in(numbers) for numbers in lists_in(words[2:], 3)]
     store.add_piece(path_in(words[0]), (path_in(words[1]), source, target, counts))
     return DONE
@@ -76,7 +76,8 @@ def run_copy(store, words):
 def run_text(store, line):
     """Set an attribute to a text, which may contain spaces and be empty."""
     words = line.split(SPACE, 3)
-    require(len(words) == 4 and words[1] != "" and words[2] != "")
+    require(len(words) == 4)
+    require(all([word not in ("", COLON) for word in words[1:3]]))
     store.set_attribute(path_in(words[1]), words[2], words[3])
     return DONE
 
@@ -163,6 +164,7 @@ def reply_to(store, line):
     if words[0] == "text":
         return run_text(store, line)
     require("" not in words and words[0] in ACTIONS)
+    require(words.count(COLON) == COLON_COUNTS.get(words[0], 0))
     action = ACTIONS[words[0]]
     return action(store, words[1:])
 

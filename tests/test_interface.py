@@ -106,6 +106,21 @@ FUNCTIONS = {
         "changed_chunks": ["disk", "first", "second", "path"],
     },
     "scripts": {"run_line": ["store", "line"], "run_script": ["store", "text"]},
+    "dumps": {"dump": ["store"]},
+    "sums": {"summary": ["store", "path", "selection"], "first_difference": ["store", "path", "other"]},
+    "repairing": {"repaired": ["disk"]},
+    "expressions": {
+        "depth": ["expression"],
+        "paths_of": ["expression"],
+        "is_expression": ["expression"],
+        "format_expression": ["expression"],
+        "parse_expression": ["text"],
+    },
+    "evaluating": {
+        "expression_shape": ["store", "expression"],
+        "evaluate": ["store", "expression", "selection"],
+        "store_expression": ["store", "path", "selection", "expression"],
+    },
 }
 
 METHODS = {

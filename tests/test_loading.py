@@ -268,6 +268,7 @@ class FaultTests(unittest.TestCase):
             (14, "chunk 1 1 : 0 0 -7 0 -7 -7"), (14, "chunk 1 1 : 0 0 -7 -7 -7 0"), (14, "chunk 0 1 : 7 8 -7 9 10 -7"),
             (14, "chunk 0 0 : 1 2 3 4 5 6"), (21, "chunk 0 : 0"), (21, "chunk : 0 0"), (21, "chunk 0"), (21, "chunk : -1"),
             (21, "chunk :"), (21, "chunk : : 0"), (12, "piece a 0 0 0 0 1 1"), (12, "text v x"),
+            (12, "chunk 0 -1 : -7 -7 -7 -7 -7 -7"), (12, "chunk -1 0 : -7 -7 -7 -7 -7 -7"),
         ]:
             self.refused(with_line(number, line), number)
         self.refused(with_line(21, "chunk : 0", "chunk : 0"), 22)

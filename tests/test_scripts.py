@@ -322,6 +322,14 @@ class BadLineTests(unittest.TestCase):
             "group : h", "commit :", "array b i2 2: 2 : 0", "array b i2 2 :2 : 0",
         ])
 
+    def test_colons_where_a_path_or_a_name_is_due(self):
+        self.check([
+            "group :", "remove :", "names :", "move g :", "copy : h", "read : 0:1:1", "write : 0:1:1 1", "resize : 2",
+            "forget g :", "forget : unit", "list g : 1", "list : 7 1", "list g : 7 1", "text : t x", "text g : x",
+            "array : i2 2 : 2 : 0", "array b : 2 : 2 : 0", "array : 1 2 : 2 : 0", "view : i2 2 : 0", "view w : 2 : 0",
+            "piece : g/a 0 : 0 : 1", "piece v : 0 : 0 : 1", "piece : 0 1 0 : 0 : 1", "array : i2 2 : 0",
+        ])
+
     def test_words_that_are_no_integers(self):
         wrong = ["-0", "+1", "01", "-01", "00", "1.5", "x", "--1", "-", "1-", "0x1", "1_0", "1e3", THIRTY_ONE, "-" + THIRTY_ONE]
         for number in wrong:
