@@ -1,5 +1,16 @@
 """All errors of the program."""
 
+# Integers have no bounds in between, but Python refuses to write those of
+# thousands of digits, and does so with an error that is not one of the program.
+BEYOND_TOLD = 10 ** 30
+
+
+def told(thing):
+    """Return how a message tells a field of an error."""
+    if isinstance(thing, int) and abs(thing) >= BEYOND_TOLD:
+        return "(more than thirty digits)"
+    return str(thing)
+
 
 class TesseraError(ValueError):
     """The base class of all errors of the program."""
@@ -9,7 +20,7 @@ class Unreadable(TesseraError):
     """Nothing of the wanted form is written at the index."""
 
     def __init__(self, index):
-        super().__init__(f"nothing of this form can be read at index {index}")
+        super().__init__(f"nothing of this form can be read at index {told(index)}")
         self.index = index
 
 
@@ -17,7 +28,7 @@ class InvalidValue(TesseraError):
     """A value is outside of the range of its kind."""
 
     def __init__(self, value):
-        super().__init__(f"the value {value} is outside of the range")
+        super().__init__(f"the value {told(value)} is outside of the range")
         self.value = value
 
 
@@ -33,7 +44,7 @@ class TooLarge(TesseraError):
     """There are more indexes than the limit."""
 
     def __init__(self, limit):
-        super().__init__(f"more than {limit} indexes")
+        super().__init__(f"more than {told(limit)} indexes")
         self.limit = limit
 
 
@@ -41,7 +52,7 @@ class WrongCount(TesseraError):
     """The number of values is not the one that is due."""
 
     def __init__(self, due, given):
-        super().__init__(f"{due} values are due, and {given} are given")
+        super().__init__(f"{told(due)} values are due, and {told(given)} are given")
         self.due = due
         self.given = given
 
@@ -62,7 +73,7 @@ class Damaged(TesseraError):
     """The record with this pointer is damaged."""
 
     def __init__(self, address, length):
-        super().__init__(f"the record of {length} bytes at {address} is damaged")
+        super().__init__(f"the record of {told(length)} bytes at {told(address)} is damaged")
         self.address = address
         self.length = length
 
@@ -131,7 +142,7 @@ class InvalidDump(TesseraError):
     """A text is not a dump, from this line on."""
 
     def __init__(self, line):
-        super().__init__(f"line {line} is not one of a dump")
+        super().__init__(f"line {told(line)} is not one of a dump")
         self.line = line
 
 
@@ -139,7 +150,7 @@ class UnknownBatch(TesseraError):
     """No whole seal has this number of a batch."""
 
     def __init__(self, missing):
-        super().__init__(f"there is no seal of the batch {missing}")
+        super().__init__(f"there is no seal of the batch {told(missing)}")
         self.missing = missing
 
 

@@ -3,7 +3,7 @@
 from tessera.errors import InvalidExpression
 from tessera.objects import BEYOND_INTEGERS
 from tessera.paths import is_path
-from tessera.words import SPACE, BadWord, integer_in, is_integer_word, require
+from tessera.words import SPACE, BadWord, integer_in, integers_in, is_integer_word, require
 
 DEEPEST = 12
 PATH_SIGN = "@"
@@ -148,4 +148,4 @@ def offsets_at(words, at):
     behind = at
     while behind < len(words) and is_integer_word(words[behind]):
         behind = behind + 1
-    return tuple([int(word) for word in words[at:behind]]), behind
+    return integers_in(words[at:behind]), behind

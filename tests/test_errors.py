@@ -74,6 +74,17 @@ class ErrorTests(unittest.TestCase):
                 self.assertIsInstance(str(caught.exception), str)
                 self.assertIsInstance(caught.exception, ValueError)
 
+    def test_integers_of_any_size_are_told(self):
+        # Python itself refuses to write integers of more than 4300 digits.
+        for name in ("Unreadable", "InvalidValue", "TooLarge", "WrongCount", "Damaged", "InvalidDump", "UnknownBatch"):
+            fields = FIELDS[name]
+            for digits in (29, 30, 31, 4300, 4301, 40000):
+                for great in (10 ** digits, -(10 ** digits), 10 ** digits - 1, 1 - 10 ** digits):
+                    error = getattr(errors, name)(*[great for _ in fields])
+                    self.assertTrue(all([getattr(error, field) == great for field in fields]))
+                    self.assertTrue(len(str(error)) < 200)
+                    self.assertTrue(str(error).isascii())
+
 
 if __name__ == "__main__":
     unittest.main()

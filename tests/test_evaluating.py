@@ -18,6 +18,7 @@ from tests.test_expressions import tower
 from tests.tools import damaged_disk, error_of, outcome, snapshot
 
 A, B, V = ("path", "a"), ("path", "b"), ("path", "v")
+ONE = ("number", 1)
 BINARY = ("add", "sub", "mul", "min", "max", "less")
 
 
@@ -275,6 +276,35 @@ class ErrorTests(unittest.TestCase):
         for path, value in [("a", 2 ** 15), ("a", -2 ** 15 - 1), ("b", 2 ** 31), ("b", -10 ** 29)]:
             expression = ("add", ("mul", A, number(0)), number(value))
             self.refused(lambda: store_expression(store, path, all_of_it, expression), InvalidValue, value=value)
+
+    def test_values_of_many_digits_are_refused(self):
+        # Python itself refuses to write integers of more than 4300 digits.
+        for base in (10 ** 29, 1 - 10 ** 30):
+            power, value = number(base), base
+            for _ in range(9):
+                power, value = ("mul", power, power), value * value
+                for sign in (1, -1):
+                    signed = ("mul", number(sign), power)
+                    self.refuses_great(("add", ("mul", A, number(0)), signed), sign * value)
+                    # Only the last row has great values, the other ones have sevens.
+                    self.refuses_great(("pick", ("shift", ("add", ONE, ("mul", A, number(0))), (1, 0)), number(7), signed), sign * value)
+
+    def refuses_great(self, expression, value):
+        self.assertEqual(evaluate(self.store, expression, ("points", ((2, 1),))), [value])
+        for path in ("a", "b"):
+            for selection in (whole((3, 4)), ("points", ((2, 1), (0, 0))), ("points", ((0, 0), (2, 1)))):
+                self.refused(lambda: store_expression(self.store, path, selection, expression), InvalidValue, value=value)
+
+    def test_values_that_are_small_at_last(self):
+        power = number(10 ** 30 - 1)
+        for _ in range(9):
+            power = ("mul", power, power)
+        for expression, value in [
+            (("sub", power, power), 0), (("less", number(1), power), 1), (("min", power, number(5)), 5), (("pick", power, number(6), ONE), 6),
+        ]:
+            expression = ("add", ("mul", A, number(0)), expression)
+            self.assertIsNone(store_expression(self.store, "a", whole((3, 4)), expression))
+            self.assertEqual(self.store.read("a", whole((3, 4))), [value] * 12)
 
     def test_the_first_value_that_is_refused(self):
         store = self.store

@@ -28,6 +28,7 @@ GOOD = {
     "( pick @a @b/c 1 )": ("pick", A, B, ONE),
     "( shift @a )": ("shift", A, ()),
     "( shift @a 0 )": ("shift", A, (0,)),
+    "( shift @a " + "9" * 30 + " -" + "9" * 30 + " )": ("shift", A, (THIRTY, -THIRTY)),
     "( shift ( shift 1 -1 2 ) 3 -4 5 -6 )": ("shift", ("shift", ONE, (-1, 2)), (3, -4, 5, -6)),
     "( pick ( less @a 1 ) ( shift @b/c 1 0 ) ( add @ -1 ) )":
         ("pick", ("less", A, ONE), ("shift", B, (1, 0)), ("add", ("path", ""), ("number", -1))),
@@ -102,7 +103,7 @@ def close_all(text):
     def close(found):
         name, *words = found.group(1).split(" ")
         if name == "shift" and words:
-            if not all(re.fullmatch("0|-?[1-9][0-9]*", word) for word in words[1:]):
+            if not all(re.fullmatch("0|-?[1-9][0-9]{0,29}", word) for word in words[1:]):
                 raise Wrong()
             return mark(("shift", atom(words[0]), tuple([int(word) for word in words[1:]])))
         if PARTS.get(name) != len(words):
@@ -245,6 +246,17 @@ class TextTests(unittest.TestCase):
         ]:
             self.assertIsNone(parsed(text), text)
             self.refused(text)
+
+    def test_integers_of_more_than_thirty_digits(self):
+        # Python itself refuses to read integers of more than 4300 digits.
+        for digits in (31, 32, 100, 4300, 4301, 5000):
+            for word in ("1" * digits, "9" * digits, "-" + "1" + "0" * (digits - 1)):
+                for text in (
+                    word, f"( add @a {word} )", f"( shift {word} 0 )", f"( shift @a {word} )", f"( shift @a {word} 0 )", f"( shift @a 0 {word} )",
+                    f"( shift @a 0 {word} 0 )", f"( add 1 ( shift ( shift @a 1 ) {word} ) )", f"( shift @a 0 {word}", f"( shift @a 0{word} )",
+                ):
+                    self.assertIsNone(parsed(text))
+                    self.refused(text)
 
     def test_words_left_out_doubled_and_exchanged(self):
         others = ["(", ")", "@a", "@", "@A", "0", "-0", "+1", "01", "9" * 31, "add", "pick", "shift", "path", "x", ""]

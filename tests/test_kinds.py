@@ -69,6 +69,14 @@ class KindTests(unittest.TestCase):
                     self.assertEqual(caught.exception.value, wrong)
                     self.assertEqual(values, kept)
 
+    def test_values_of_many_digits_are_named(self):
+        for kind, (_, low, high) in ENDS.items():
+            for digits in (30, 31, 4300, 4301, 40000):
+                for wrong in (10 ** digits, -(10 ** digits)):
+                    with self.assertRaises(InvalidValue) as caught:
+                        store_values(kind, [low, high, wrong, high + 1])
+                    self.assertTrue(caught.exception.value == wrong)
+
     def test_lists_are_not_changed(self):
         values, stored = [1, -2], [1, 0, 254, 255]
         store_values("i2", values)

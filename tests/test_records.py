@@ -106,7 +106,7 @@ class RecordTests(unittest.TestCase):
 
     def test_pointers_far_away(self):
         disk = Disk(make_record(3, [7]))
-        for pointer in ((250 ** 8 - 1, 4), (0, 250 ** 8 - 1), (10 ** 29, 10 ** 29)):
+        for pointer in ((250 ** 8 - 1, 4), (0, 250 ** 8 - 1), (10 ** 29, 10 ** 29), (10 ** 5000, 10 ** 6000)):
             self.check_damaged(disk, 3, pointer)
 
     def test_too_short_for_a_record(self):
